@@ -298,27 +298,27 @@ func TestAnyTickOfOn(t *testing.T) {
 	}
 }
 
-// P21.2 (all states, all short scripts): each run of four messages out of a few is answered as by the clerk.
+// P21.2 to P21.4: each script of five calls out of ten is answered as by the clerk.
 func TestShortScripts(t *testing.T) {
 	words := []api.Message{say(count, 7, 1), say(count, 7, 2), say(count, 7, 3), thing(7, 0), say(item, 7, 0, 9, 9, 9, 9, 9), thing(7, 1), thing(7, 2), say(cancel, 7)}
-	var go4 func(p *pair, left int)
-	go4 = func(p *pair, left int) {
+	var goOn func(p *pair, left int)
+	goOn = func(p *pair, left int) {
 		if left == 0 {
 			return
 		}
 		for _, m := range words {
 			q := p.twin()
 			q.on(t, m, 1000)
-			go4(q, left-1)
+			goOn(q, left-1)
 		}
 		q := p.twin()
 		q.keep(t, 3)
-		go4(q, left-1)
+		goOn(q, left-1)
 		q = p.twin()
 		q.tick(t, 1200)
-		go4(q, left-1)
+		goOn(q, left-1)
 	}
-	go4(newPair(t, 7, 2), 5)
+	goOn(newPair(t, 7, 2), 5)
 }
 
 // P21.2 to P21.4: scripts at random, of all calls.
