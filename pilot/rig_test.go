@@ -338,7 +338,7 @@ const (
 func (r *rig) at(x, y, z int) {
 	r.t.Helper()
 	r.align(1)
-	r.w.P = [3]int{6400 * (x + 1000), 6400 * (y + 1000), 6400 * (z + 1000)}
+	r.w.P = [3]int{6400 * (x - 1000*side(x)), 6400 * (y - 1000*side(y)), 6400 * (z - 1000*side(z))}
 	r.step()
 	r.w.P = [3]int{6400 * x, 6400 * y, 6400 * z}
 	r.step()
@@ -348,6 +348,14 @@ func (r *rig) at(x, y, z int) {
 			r.t.Fatal("not set:", i, mm, p)
 		}
 	}
+}
+
+// side is on which side of 0 a place lies: from afar is from within.
+func side(x int) int {
+	if x < 0 {
+		return -1
+	}
+	return 1
 }
 
 // airborne is a still rig in mode Hold, at a height of 5 m, in a fence that is wide enough for all that a test does.
