@@ -41,7 +41,7 @@ type rig struct {
 	heard  []api.Message
 }
 
-const plenty = 1000000
+const plenty = 1000000000
 
 // imageOf is a flash that keeps these objects.
 func imageOf(t testing.TB, objects map[int]string) string {
