@@ -33,6 +33,7 @@ func (r *rig) settles(name string, refs [3]int) {
 
 // P24.7: each mode's wants, from afar: which way it goes on each axis, and how fast.
 func TestWants(t *testing.T) {
+	t.Parallel()
 	sticks := func(a, b, c int) func(in *api.Inputs) {
 		return func(in *api.Inputs) { in.Rc = write(t, api.Rc, a, b, c, 77, 0) }
 	}

@@ -142,6 +142,7 @@ func inMode(t *testing.T, mode api.Mode, s setup) *rig {
 
 // P24.4: each op in each mode: what is granted, and what comes of it.
 func TestCommands(t *testing.T) {
+	t.Parallel()
 	from := map[int][]api.Mode{
 		arm:      {api.Standby},
 		disarm:   {api.Ready},

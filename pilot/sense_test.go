@@ -276,6 +276,7 @@ func TestSticksNow(t *testing.T) {
 
 // P24.3: the age of the remote control goes on up to 65535 and stays there.
 func TestRemoteAge(t *testing.T) {
+	t.Parallel()
 	r := airborne(t, setup{par: map[int]int{api.RcWait: 40000, api.LinkWait: 40000}})
 	r.command(position)
 	r.rc = write(t, api.Rc, 1000, 0, 0, 0, 0)
