@@ -386,3 +386,20 @@ func TestFalls(t *testing.T) {
 		t.Error(got)
 	}
 }
+
+// P24.7: what is wanted by a stick is no fall to land: where the reference is low enough from the beginning on, it takes 40 ticks still.
+func TestFallsByStick(t *testing.T) {
+	// To Descend it goes by Climb and Return, in which the reference goes up for eight ticks, and down again for eight.
+	for op, ticks := range map[int]int{land: 40, toReturn: 8 + 8 + 40} {
+		r := inMode(t, api.Position, setup{})
+		r.alter = func(in *api.Inputs) { in.Rc = write(t, api.Rc, 0, 0, -1000, 0, 0) }
+		r.run(1500)
+		r.align(0)
+		r.order(op, 0)
+		start := r.tick - 1
+		r.until(api.Down, 100)
+		if got := r.tick - 1 - start; got != ticks {
+			t.Error(op, got)
+		}
+	}
+}

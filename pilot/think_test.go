@@ -696,13 +696,24 @@ func TestTarget(t *testing.T) {
 		}
 	}
 	// A place below 0 is rounded down to a mm: half a mm less is another one.
-	near := []api.Point{{X: -3, Y: 1000}, {X: 2, Y: 1000}}
-	for x, want := range map[int]int{-1: 0, 0: 1, 1: 1, -2: 0} {
-		r := airborne(t, setup{fence: square(100000, 200000000, near...), par: map[int]int{api.Radius: 260}})
-		r.at(x, 0, 9000)
-		r.command(toReturn)
-		if got := r.c.target[0]; got != 6400*near[want].X {
-			t.Error(x, got)
+	for axis := range 2 {
+		near := []api.Point{{X: -1003, Y: 40000}, {X: 1002, Y: 40000}}
+		if axis == 1 {
+			near = []api.Point{{X: 40000, Y: -1003}, {X: 40000, Y: 1002}}
+		}
+		for mm, want := range map[int]int{-2: 0, -1: 0, 0: 1, 1: 1} {
+			r := airborne(t, setup{fence: square(100000, 200000000, near...), par: map[int]int{api.Radius: 260}})
+			from := [2]int{}
+			from[axis] = mm
+			r.at(from[0], from[1], 9000)
+			r.order(toReturn, 0)
+			r.run(4)
+			r.is(api.Return)
+			r.at(near[want].X, near[want].Y, 9000)
+			r.run(1)
+			if r.view.Mode != api.Descend {
+				t.Error(axis, mm, r.view.Mode)
+			}
 		}
 	}
 	// Beyond what a place may be the guard has tripped, and goes ahead of the order.

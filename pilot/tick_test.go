@@ -133,3 +133,16 @@ func TestEmptyTicks(t *testing.T) {
 		}
 	}
 }
+
+// R1: a Pilot that New did not make is one without jobs: it does nothing, and does not panic.
+func TestPilotOfNoughts(t *testing.T) {
+	p := &pilot.Pilot{}
+	for range 200 {
+		if out, e := p.Step(api.Inputs{Link: commandText(t, arm), Rc: "\xa5"}); e != api.OK || out != (api.Outputs{}) {
+			t.Fatal(out, e)
+		}
+	}
+	if _, has := p.Fence(); has || p.View() != (api.View{}) || len(p.Params()) != 0 || len(p.Mission()) != 0 {
+		t.Error("tells something")
+	}
+}
