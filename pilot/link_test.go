@@ -384,6 +384,44 @@ func TestParamSetAtOnce(t *testing.T) {
 	}
 }
 
+// P24.4: steer and compass are made anew as well, and what follows from parameters is that of the new ones.
+func TestParamSetInFlight(t *testing.T) {
+	r := inMode(t, api.Standby, setup{})
+	r.tells(msg(t, api.ParamSet, api.Accel, 32), m(api.ParamValue, api.Accel, 32))
+	r.run(20)
+	r.at(0, 0, 0)
+	r.order(arm, 0)
+	r.command(takeoff)
+	if got := askedBy(r.out.Motors); got != [3]int{0, 0, 32} {
+		t.Error(got)
+	}
+	// A compass that has lost its way knows the heading at once.
+	r = inMode(t, api.Standby, setup{})
+	r.alter = func(in *api.Inputs) { in.Imu = [3]string{} }
+	r.run(300)
+	r.tells(msg(t, api.ParamSet, api.Wind, 6), m(api.ParamValue, api.Wind, 6))
+	r.alter = nil
+	r.align(0)
+	r.run(1)
+	r.is(api.Standby)
+	// The guard asks for the room that the new ones need: at a velocity of 3000 that is 36 mm, or 38, if a dead motor is told 2 ticks later.
+	for late, trips := range map[int]bool{2: false, 4: true} {
+		r := inMode(t, api.Standby, setup{fence: square(30000, 20000)})
+		r.tells(msg(t, api.ParamSet, api.DeadTicks, late), m(api.ParamValue, api.DeadTicks, late))
+		r.run(20)
+		r.command(arm, takeoff, hold, position)
+		r.align(1)
+		r.w.P = [3]int{0, 0, 6400 * 5000}
+		r.step()
+		r.w.P[0], r.w.V[0] = 6400*(30000-38), 3000
+		r.step()
+		r.is(api.Position)
+		if r.view.Backup != trips {
+			t.Error(late, r.view)
+		}
+	}
+}
+
 // listText is the messages that bring a list.
 func listText(t testing.TB, what int, rows [][]int) []string {
 	t.Helper()

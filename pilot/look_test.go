@@ -232,6 +232,31 @@ func TestCompassComesBack(t *testing.T) {
 	}
 }
 
+// P24.5: the heading is off by 1, the rate by nothing: what that makes of the bound can be seen where it comes just below a whole angle.
+func TestCompassBound(t *testing.T) {
+	r := standing(t, setup{par: map[int]int{api.Stale: 1}})
+	silent := func(in *api.Inputs) { in.Imu = [3]string{} }
+	r.align(0)
+	bound := 17
+	for _, s := range []struct{ mute, heard int }{{19, 7}, {26, 4}} {
+		r.alter = silent
+		r.run(s.mute)
+		r.alter = nil
+		r.run(s.heard)
+		// The first silent tick has a vote still.
+		bound = 7*bound/8 + 3 + 4096*(s.mute-1)
+		for range s.heard {
+			bound = 7*bound/8 + 3
+		}
+	}
+	if bound < 65536 || 7*bound/8+3 != 65535 {
+		t.Fatal(bound)
+	}
+	r.is(api.Locked)
+	r.run(1)
+	r.is(api.Standby)
+}
+
 // P24.5: the compass steps by the voted rate and heading; the vehicle is turned by them.
 func TestCompassTurns(t *testing.T) {
 	r := airborne(t, setup{})

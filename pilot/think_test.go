@@ -171,6 +171,63 @@ func TestFitBox(t *testing.T) {
 	}
 }
 
+// P24.6: the box is told outward: a part of a mm that a silent tick adds is a whole one, on each side.
+func TestFitBoxOutward(t *testing.T) {
+	for _, row := range []struct {
+		axis, mm int
+		fit      bool
+	}{
+		{0, 29477, true}, {0, 29478, false}, {0, -29478, true}, {0, -29479, false},
+		{1, 29477, true}, {1, 29478, false}, {1, -29478, true}, {1, -29479, false},
+		{2, 19478, true}, {2, 19479, false},
+	} {
+		r := setup{fence: square(30000, 20000), par: map[int]int{api.Stale: 1}}.rig(t)
+		r.still = true
+		r.w.P[row.axis] = 6400 * row.mm
+		r.run(7)
+		r.is(api.Standby)
+		// One silent tick has a vote still, the next one has none.
+		r.alter = func(in *api.Inputs) { in.Gnss, in.Baro = [3]string{}, [3]string{} }
+		r.run(2)
+		if p := r.view.Axes[row.axis].P; p.Hi != 6400*(row.mm+21)+96 || p.Lo != 6400*(row.mm-20)-96 {
+			t.Fatal(p)
+		}
+		if got := r.view.Mode == api.Standby; got != row.fit {
+			t.Error(row, r.view.Mode)
+		}
+	}
+}
+
+// P24.6: the height that a tier is asked of is rounded up.
+func TestDryRounded(t *testing.T) {
+	values := params.Defaults()
+	values[api.Stale] = 1
+	for _, mm := range []int{5000, 5001, 5002, 5003, 5004} {
+		above, below := needs(t, values, mm+22, 0, false), needs(t, values, mm+21, 0, false)
+		if above == below {
+			continue
+		}
+		for less := range 2 {
+			r := airborne(t, setup{par: map[int]int{api.Stale: 1}})
+			r.at(0, 0, mm)
+			r.order(position, 0)
+			r.align(3)
+			r.alter = func(in *api.Inputs) { in.Baro = [3]string{} }
+			r.run(1)
+			r.w.Charge = above + 100 - less
+			r.run(1)
+			if p := r.view.Axes[2].P.Hi; p != 6400*(mm+21)+96 {
+				t.Fatal(p)
+			}
+			if got := r.view.Mode == api.Brake; got != (less == 1) {
+				t.Error(mm, less, r.view.Mode)
+			}
+		}
+		return
+	}
+	t.Error("no height to tell them apart")
+}
+
 // flyingModes are those in which Trip, Blind and Dry lead to Brake.
 var flyingModes = []api.Mode{api.Takeoff, api.Hold, api.Position, api.Altitude, api.Auto, api.Climb, api.Return, api.Descend, api.Land}
 
