@@ -33,7 +33,7 @@ type flight struct {
 	landed   bool // whether the detector says so in this tick
 	falls    bool
 	asked    [axes]int
-	motors   [8]int
+	motors   [motors]int
 }
 
 // newFlight is a vehicle that is locked.
@@ -62,7 +62,7 @@ func (f *flight) rest() {
 	f.steer.Rest([axes]int{})
 	f.backup = guard.NewBackup()
 	f.backed, f.falls = false, false
-	f.asked, f.motors = [axes]int{}, [8]int{}
+	f.asked, f.motors = [axes]int{}, [motors]int{}
 }
 
 // rescued tells whether the backup is asked.

@@ -16,6 +16,8 @@ const (
 	axes  = 3
 	up    = 2 // the axis on which there is a ground
 	units = 3
+	// motors are numbered from 1 on where one is told to be dead.
+	motors = 8
 	// half of a mm: what is told of a place is its whole mm below, so that the truth lies about the middle of that one.
 	half = api.PerMM / 2
 	// whole is a stick at its end.
@@ -139,7 +141,7 @@ func (s *sensors) readMotors(data string) {
 		return
 	}
 	s.charge = api.Reading{Ok: true, X: fields[1]}
-	if s.dead == 0 && fields[0] <= 8 {
+	if s.dead == 0 && fields[0] <= motors {
 		s.dead = fields[0]
 	}
 }
